@@ -1,0 +1,1 @@
+"""A booking house over a cluster."""
