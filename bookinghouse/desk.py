@@ -30,14 +30,24 @@ class Desk:
         self.earned = 0
         self.entries = []
 
+    def twin(self):
+        """The desk as it is now, untouched by what is done to this one later."""
+        other = Desk(self.flight, self.price, self.seats, self.over)
+        other.earned = self.earned
+        other.entries = [Entry(entry.attempt, entry.seats, entry.fate) for entry in self.entries]
+        return other
+
     def fate_of(self, attempt):
         for entry in self.entries:
             if entry.attempt == attempt:
                 return entry.fate
         return UNHEARD
 
+    def seats_of_fate(self, fate):
+        return sum([entry.seats for entry in self.entries if entry.fate == fate])
+
     def sold(self):
-        return sum([entry.seats for entry in self.entries if entry.fate in (HELD, TAKEN)])
+        return self.seats_of_fate(HELD) + self.seats_of_fate(TAKEN)
 
     def may_be_sold(self):
         return self.seats + self.over

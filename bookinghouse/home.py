@@ -29,6 +29,15 @@ class Booking:
         self.noted = []
         self.standing = ASKED
 
+    def twin(self):
+        """The booking as it is now, untouched by what is done to this one later."""
+        other = Booking(self.account, self.seats, self.choices)
+        other.choice = self.choice
+        other.attempts = self.attempts
+        other.noted = list(self.noted)
+        other.standing = self.standing
+        return other
+
 
 class Home:
     """One node's accounts, the bookings made from them, and the fees it keeps."""
@@ -39,6 +48,14 @@ class Home:
         self.moneys = []
         self.fees = 0
         self.bookings = []
+
+    def twin(self):
+        """The home as it is now, untouched by what is done to this one later."""
+        other = Home(self.number, self.plans)
+        other.moneys = list(self.moneys)
+        other.fees = self.fees
+        other.bookings = [booking.twin() for booking in self.bookings]
+        return other
 
     def book(self, account, seats, choices):
         """Make a booking and try it; answers what is to be said."""

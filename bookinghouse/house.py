@@ -1,4 +1,4 @@
-"""The cluster and the calls on it; each answers one number, a refusal is below 0."""
+"""The cluster, and the calls that do something on it; a refusal is a number below 0."""
 
 from bookinghouse.home import CONFIRMED, Plan
 from bookinghouse.node import Node
@@ -25,6 +25,7 @@ LAST_CLIENT = 3
 MOST_BOOKED_SEATS = 9
 MOST_CHOICES = 3
 MOST_FLIGHTS_OF_CHOICE = 3
+MOST_ROUNDS = 30
 
 
 class House:
@@ -151,3 +152,39 @@ class House:
     def make_sure(self, d):
         """Keep for good what was done at a node, and send out what it has to say."""
         self.wire.extend(self.nodes[d].make_sure())
+
+    def tally(self, d):
+        return [self.nodes[d].doings(), len(self.wire)]
+
+    def sure(self, d):
+        if not self.has_node(d):
+            return [NO_SUCH_NODE]
+        self.make_sure(d)
+        return self.tally(d)
+
+    def power(self, d, n):
+        if not self.has_node(d):
+            return [NO_SUCH_NODE]
+        self.nodes[d].lose(n)
+        self.make_sure(d)
+        return self.tally(d)
+
+    def quiet(self):
+        changed = 0
+        for turn in range(MOST_ROUNDS):
+            changed_now = self.do_round()
+            changed += changed_now
+            if changed_now == 0:
+                break
+        return [changed, len(self.wire)]
+
+    def do_round(self):
+        """Make all sure, then read the wire; answers how many messages changed something."""
+        for d in range(len(self.nodes)):
+            self.make_sure(d)
+        changed = 0
+        # Nothing goes out while messages are read, so the wire is as long at the end as it is here.
+        for m in range(len(self.wire)):
+            if self.read_wire(m) == 1:
+                changed += 1
+        return changed

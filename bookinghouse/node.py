@@ -7,8 +7,25 @@ from bookinghouse.messages import is_for_home
 MOST_DOINGS = 60
 
 
+class Memory:
+    """What a node knew at one time: all that is set back when doings are lost."""
+
+    def __init__(self, home, desks, requests):
+        self.home = home
+        self.desks = desks
+        self.requests = requests
+
+
+class Doing:
+    """A doing that isn't sure: what the node knew before it, and what it has to say."""
+
+    def __init__(self, before, unsaid):
+        self.before = before
+        self.unsaid = unsaid
+
+
 class Node:
-    """What a node keeps; each doing that isn't sure stands in the journal with what it has to say."""
+    """What a node keeps; the doings that aren't sure stand in the journal."""
 
     def __init__(self, number, plans):
         self.home = Home(number, plans)
@@ -26,22 +43,37 @@ class Node:
     def is_full(self):
         return self.doings() == MOST_DOINGS
 
+    def remember(self):
+        """What the node knows now, untouched by what is done later."""
+        twins = {}
+        for flight, desk in self.desks.items():
+            twins[flight] = desk.twin()
+        done = {}
+        for request, answer in self.requests.items():
+            done[request] = answer
+        return Memory(self.home.twin(), twins, done)
+
     def book(self, request, account, seats, choices):
+        before = self.remember()
         answer = len(self.home.bookings)
-        self.unsure.append(self.home.book(account, seats, choices))
+        unsaid = self.home.book(account, seats, choices)
         self.requests[request] = answer
+        self.unsure.append(Doing(before, unsaid))
         return answer
 
     def cancel(self, request, b):
+        before = self.remember()
         answer = self.home.refund(b)
-        self.unsure.append(self.home.cancel(b))
+        unsaid = self.home.cancel(b)
         self.requests[request] = answer
+        self.unsure.append(Doing(before, unsaid))
         return answer
 
     def cut(self, flight, seats):
-        said = self.desks[flight].cut(seats)
-        self.unsure.append(said)
-        return len(said)
+        before = self.remember()
+        unsaid = self.desks[flight].cut(seats)
+        self.unsure.append(Doing(before, unsaid))
+        return len(unsaid)
 
     def heeds(self, message):
         """Whether the message, read now, would change something."""
@@ -51,16 +83,28 @@ class Node:
 
     def read(self, message):
         """Read a message that is heeded."""
+        before = self.remember()
         if is_for_home(message):
-            self.unsure.append(self.home.read(message))
+            unsaid = self.home.read(message)
         else:
-            self.unsure.append(self.desks[message.flight].read(message))
+            unsaid = self.desks[message.flight].read(message)
+        self.unsure.append(Doing(before, unsaid))
+
+    def lose(self, n):
+        """Of the doings that aren't sure keep the first n; the others were never done."""
+        if n >= len(self.unsure):
+            return
+        before = self.unsure[n].before
+        self.home = before.home
+        self.desks = before.desks
+        self.requests = before.requests
+        self.unsure = self.unsure[:n]
 
     def make_sure(self):
         """Keep for good all that was done; answers what goes out on the wire, in order."""
         going_out = []
-        for said in self.unsure:
-            going_out.extend(said)
+        for doing in self.unsure:
+            going_out.extend(doing.unsaid)
         self.sure_doings += len(self.unsure)
         self.unsure = []
         return going_out

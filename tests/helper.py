@@ -37,6 +37,47 @@ def wire(m):
     return [6, m]
 
 
+def sure(d):
+    return [7, d]
+
+
+def power(d, n):
+    return [8, d, n]
+
+
+def quiet():
+    return [9]
+
+
+def booking(d, b):
+    return [10, d, b]
+
+
+def board(of_flight):
+    return [11, of_flight]
+
+
+def money(d):
+    return [12, d]
+
+
+def messages(m):
+    return [13, m]
+
+
+def ask_lists(*calls):
+    """The list of numbers that each of the calls is answered, on one new cluster."""
+    given = answers([number for call in calls for number in call])
+    told = []
+    at = 0
+    while at < len(given):
+        told.append(given[at + 1:at + 1 + given[at]])
+        at += 1 + given[at]
+    if at != len(given) or len(told) != len(calls):
+        raise AssertionError(f"not one answer for each call: {given}")
+    return told
+
+
 def ask(*calls):
     """The one number that each of the calls is answered, on one new cluster."""
     given = answers([number for call in calls for number in call])
@@ -93,7 +134,7 @@ def messages_of(house, first=0):
 
 def unsaid_of(house, d):
     """What waits at a node to be said, doing by doing: to which node, what it says, the try, the flight."""
-    return [[(m.node, m.says, m.attempt[2], m.flight) for m in said] for said in house.nodes[d].unsure]
+    return [[(m.node, m.says, m.attempt[2], m.flight) for m in doing.unsaid] for doing in house.nodes[d].unsure]
 
 
 def entries_of(house, d, of_flight):

@@ -60,7 +60,7 @@ class CutTest(unittest.TestCase):
         house = make_house(2, [(0, 10, 3, 0)], [(0, 9999)])
         house.book(0, 0, 0, 0, 3, [[0]])
         read_all(house)
-        self.assertEqual([house.cut(0, 0, 20), house.cut(0, 0, 3), house.cut(0, 0, 2), house.cut(0, 0, 0)], [0, 0, 1, 0])
+        self.assertEqual([house.cut(0, 0, seats) for seats in (20, 3, 2, 0)], [0, 0, 1, 0])
 
     def test_those_held_are_not_bumped_but_count(self):
         house = make_house(2, [(0, 10, 6, 0)], [(0, 9999)])

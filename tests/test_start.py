@@ -2,7 +2,8 @@
 
 import unittest
 
-from helper import GREATEST, account, ask, book, cancel, cut, flight, start, wire
+from helper import (GREATEST, account, ask, ask_lists, board, book, booking, cancel, cut, flight, messages, money,
+                    power, quiet, start, sure, wire)
 
 
 class StartTest(unittest.TestCase):
@@ -28,6 +29,12 @@ class StartTest(unittest.TestCase):
             ask(*before, start(2), book(0, 0, 0, 0, 1, [[0]]), cut(0, 0, 1), cancel(0, 0, 1, 0), *before),
             [0, 0, 0, 2, -1, -3, -3, 0, 0, 0])
 
+    def test_nothing_is_left_of_what_was_sure(self):
+        self.assertEqual(
+            ask_lists(flight(0, 1, 5, 1), account(0, 5), book(0, 0, 0, 0, 1, [[0]]), quiet(), start(2), sure(0),
+                      money(0), board(0), booking(0, 0), messages(0), quiet(), flight(1, 1, 7, 1), board(0))[4:],
+            [[2], [0, 0], [0, 0], [-3], [-3], [0], [0, 0], [0], [7, 0, 0, 0, 0]])
+
     def test_refused_start_leaves_all(self):
         self.assertEqual(
             ask(start(3), flight(2, 1, 1, 1), start(5), start(1), flight(2, 1, 1, 1), account(0, 1),
@@ -41,6 +48,14 @@ class NodeTest(unittest.TestCase):
             self.assertEqual(
                 ask(flight(d, 1, 1, 1), account(d, 1), book(d, 0, 0, 0, 1, [[0]]), cancel(d, 0, 0, 0), cut(d, 0, 1)),
                 [-2] * 5)
+            self.assertEqual(ask(sure(d), power(d, 0), booking(d, 0), money(d)), [-2] * 4)
+
+    def test_refused_for_the_node_leaves_all(self):
+        ready = [flight(0, 1, 5, 1), account(0, 5), book(0, 0, 0, 0, 1, [[0]])]
+        refused = [sure(2), power(2, 0), booking(2, 0), money(2), cut(2, 0, 1), cancel(2, 0, 0, 0)]
+        self.assertEqual(
+            ask_lists(*ready, *refused, messages(0), booking(0, 0), money(0), sure(0))[3:],
+            [[-2]] * 6 + [[0], [0, 0, 1, 0], [1, 4, 0], [1, 1]])
 
     def test_no_such_node_comes_first(self):
         self.assertEqual(
@@ -70,6 +85,9 @@ class ClientTest(unittest.TestCase):
                   (cancel(0, 0, 0, 0), -3), (cut(0, 0, 1), -3), (wire(0), -3)]
         for call, answer in firsts:
             self.assertEqual(ask(call), [answer])
+        for call, answer in ((sure(1), [0, 0]), (power(1, 9), [0, 0]), (quiet(), [0, 0]), (booking(1, 0), [-3]),
+                             (board(0), [-3]), (money(1), [0, 0]), (messages(0), [0])):
+            self.assertEqual(ask_lists(call), [answer])
 
 
 if __name__ == "__main__":
